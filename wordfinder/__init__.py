@@ -1,0 +1,1 @@
+"""Wordfinder: lines found by their words."""
