@@ -17,3 +17,10 @@ def call(case, function, *handed):
 def rows_within(numbers):
     """Every row that can be made of some of the rising numbers."""
     return [list(row) for size in range(len(numbers) + 1) for row in itertools.combinations(numbers, size)]
+
+
+def check(case, function, handed, wanted):
+    """The function answers what is wanted, of the very same kinds: 1 is not True here, and a tuple is no list."""
+    answer = call(case, function, handed)
+    case.assertEqual(answer, wanted)
+    case.assertEqual(repr(answer), repr(wanted))

@@ -8,7 +8,7 @@ import re
 import unittest
 
 import wordfinder
-from wordfinder import merging, words
+from wordfinder import day, merging, words
 
 PACKAGE = pathlib.Path(wordfinder.__file__).parent
 FILES = sorted(PACKAGE.rglob("*.py"))
@@ -35,8 +35,12 @@ BANNED_WORDS = """
 BANNED_NODES = (
     ast.With, ast.Match, ast.Delete, ast.Global, ast.Nonlocal, ast.Assert, ast.Yield, ast.YieldFrom, ast.Await,
     ast.AsyncFunctionDef, ast.AsyncFor, ast.AsyncWith, ast.SetComp, ast.DictComp, ast.GeneratorExp, ast.NamedExpr,
-    ast.Starred, ast.Div, ast.Import,
+    ast.Starred, ast.Div, ast.Import, ast.AnnAssign, ast.Lambda,
 )
+
+# What Python's own values have, and so no value of an object may be called, but for the ones that L26 frees.
+OWN_ATTRIBUTES = {name for kind in (str, int, list, dict, set, bytes, tuple) for name in dir(kind)} | {"args"}
+FREED_VALUES = "count index title find get join lower upper split strip copy add".split()
 
 
 def tree_of(path):
@@ -58,6 +62,32 @@ def own_names(tree):
         elif isinstance(node, ast.ExceptHandler) and node.name:
             names.append(node.name)
     return names
+
+
+def classes_of(tree):
+    return [node for node in ast.walk(tree) if isinstance(node, ast.ClassDef)]
+
+
+def method_names(tree):
+    return [node.name for own in classes_of(tree) for node in own.body if isinstance(node, ast.FunctionDef)]
+
+
+def value_names(tree):
+    """Every name that a value of an object is given under."""
+    return [node.attr for node in ast.walk(tree) if isinstance(node, ast.Attribute) and isinstance(node.ctx, ast.Store)]
+
+
+def drawn_from(path):
+    """The files of the package that the file imports from."""
+    modules = [node.module for node in ast.walk(tree_of(path)) if isinstance(node, ast.ImportFrom)]
+    return [PACKAGE.joinpath(*module.split(".")[1:]).with_suffix(".py") for module in modules]
+
+
+def calls_of(tree, name):
+    return [
+        node for node in ast.walk(tree)
+        if isinstance(node, ast.Call) and isinstance(node.func, ast.Name) and node.func.id == name
+    ]
 
 
 class Form(unittest.TestCase):
@@ -111,12 +141,88 @@ class Form(unittest.TestCase):
                         self.assertIn(node.id, own + ALLOWED_BUILTINS)
 
     def test_methods_are_own_or_allowed(self):
-        own = [name for path in FILES for name in own_names(tree_of(path))]
+        own = [name for path in FILES for name in method_names(tree_of(path))]
         for path in FILES:
             with self.subTest(file=path.name):
                 for node in ast.walk(tree_of(path)):
                     if isinstance(node, ast.Call) and isinstance(node.func, ast.Attribute):
                         self.assertIn(node.func.attr, own + ALLOWED_METHODS)
+
+    def test_no_two_files_draw_from_one_another(self):
+        for path in FILES:
+            seen, ahead = [], drawn_from(path)
+            while ahead:
+                source = ahead.pop()
+                self.assertIn(source, FILES)
+                self.assertNotEqual(source, path)
+                if source not in seen:
+                    seen.append(source)
+                    ahead.extend(drawn_from(source))
+
+    def test_the_top_of_a_file(self):
+        for path in FILES:
+            with self.subTest(file=path.name):
+                tree = tree_of(path)
+                self.assertTrue(ast.get_docstring(tree))
+                names = []
+                for node in tree.body[1:]:
+                    self.assertIsInstance(node, (ast.ImportFrom, ast.FunctionDef, ast.ClassDef))
+                    if isinstance(node, ast.ImportFrom):
+                        names.extend(alias.name for alias in node.names)
+                    else:
+                        names.append(node.name)
+                self.assertEqual(len(names), len(set(names)))
+
+    def test_functions_are_plain(self):
+        for path in FILES:
+            with self.subTest(file=path.name):
+                for node in ast.walk(tree_of(path)):
+                    if isinstance(node, ast.FunctionDef):
+                        self.assertEqual(node.decorator_list, [])
+                        self.assertEqual(node.args.kwonlyargs + node.args.posonlyargs, [])
+                        self.assertIsNone(node.args.vararg or node.args.kwarg)
+                        self.assertIsNone(node.returns)
+                    if isinstance(node, ast.Assign):
+                        self.assertEqual(len(node.targets), 1)
+
+    def test_classes_are_plain(self):
+        for path in FILES:
+            with self.subTest(file=path.name):
+                tree = tree_of(path)
+                for own in classes_of(tree):
+                    self.assertIn(own, tree.body)
+                    self.assertEqual(own.decorator_list + own.bases + own.keywords, [])
+                    self.assertTrue(ast.get_docstring(own))
+                    for node in own.body[1:]:
+                        self.assertIsInstance(node, ast.FunctionDef)
+
+    def test_methods_and_values_have_names_of_their_own(self):
+        methods = [name for path in FILES for name in method_names(tree_of(path))]
+        values = [name for path in FILES for name in value_names(tree_of(path))]
+        self.assertEqual(set(methods) & set(values), set())
+        for name in methods:
+            if name not in ALLOWED_DUNDERS + ALLOWED_METHODS + ["add", "discard"]:
+                self.assertNotIn(name, OWN_ATTRIBUTES)
+        for name in values:
+            if name not in FREED_VALUES:
+                self.assertNotIn(name, OWN_ATTRIBUTES)
+
+    def test_sets_are_not_kept(self):
+        for path in FILES:
+            with self.subTest(file=path.name):
+                tree = tree_of(path)
+                within = []
+                for node in calls_of(tree, "sorted") + calls_of(tree, "len"):
+                    within.extend(ast.walk(node))
+                for node in calls_of(tree, "set"):
+                    self.assertIn(node, within)
+
+    def test_is_stands_beside_plain_values_alone(self):
+        for path in FILES:
+            with self.subTest(file=path.name):
+                for node in ast.walk(tree_of(path)):
+                    if isinstance(node, ast.Compare) and isinstance(node.ops[0], (ast.Is, ast.IsNot)):
+                        self.assertIn(getattr(node.comparators[0], "value", "no plain value"), (None, True, False))
 
     def test_banned_words_stand_nowhere(self):
         for path in FILES:
@@ -135,6 +241,8 @@ class Interface(unittest.TestCase):
             (merging.in_both, ["ones", "others"]),
             (merging.in_either, ["ones", "others"]),
             (merging.in_first, ["ones", "others"]),
+            (day.answers, ["deeds"]),
+            (day.index_behind, ["deeds"]),
         )
         for function, arguments in interface:
             self.assertEqual(list(inspect.signature(function).parameters), arguments)

@@ -179,6 +179,9 @@ class AreInRow(unittest.TestCase):
         self.check([[4, 9]], True)
         self.check([[-1]], True)
 
+    def test_no_row_asks_nothing(self):
+        self.check([], True)
+
     def test_two_rows(self):
         self.check([[0], [1]], True)
         self.check([[0], [0]], False)

@@ -40,6 +40,9 @@ def are_near(ones, others, many):
 
 def are_in_row(rows):
     """True where for some number n the first row has n, the second one n + 1, and so on up to the last."""
+    # Without a row, nothing is asked of n.
+    if len(rows) == 0:
+        return True
     starts = rows[0]
     for step, row in enumerate(rows):
         starts = in_both(starts, [number - step for number in row])
